@@ -1,6 +1,7 @@
 package tests
 
 import (
+	"cmp"
 	"reflect"
 	"slices"
 	"testing"
@@ -473,16 +474,34 @@ func memoryIn(out []memory, v reflect.Value) []memory {
 func wantApart(t *testing.T, answers []any, given []any) {
 	t.Helper()
 	lists := memoryOf(answers)
-	own := len(lists)
+	own := make([]bool, len(lists))
+	for place := range own {
+		own[place] = true
+	}
 	lists = append(lists, memoryOf(given)...)
-	for at, a := range lists[:own] {
-		for _, b := range lists[at+1:] {
-			if a.from < b.to && b.from < a.to {
-				t.Errorf("two lists share memory: of %v", answers[0])
-				return
-			}
+	own = append(own, make([]bool, len(lists)-len(own))...)
+	order := countOf(len(lists))
+	slices.SortFunc(order, func(a int, b int) int { return cmp.Compare(lists[a].from, lists[b].from) })
+	var end, ownEnd uintptr // where what begins before ends: all lists, and those of answers
+	for _, place := range order {
+		list := lists[place]
+		if list.from < ownEnd || own[place] && list.from < end {
+			t.Errorf("two lists share memory: of %v", answers[0])
+			return
+		}
+		end = max(end, list.to)
+		if own[place] {
+			ownEnd = max(ownEnd, list.to)
 		}
 	}
+}
+
+func countOf(size int) []int {
+	out := make([]int, size)
+	for place := range out {
+		out[place] = place
+	}
+	return out
 }
 
 func sameWhole(a []any, b []any) bool {
